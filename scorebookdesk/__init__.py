@@ -1,0 +1,1 @@
+"""Scores: notes, voices, envelopes, lines into sound."""
