@@ -13,6 +13,14 @@ def points_of(numbers):
     return list(zip(numbers[::2], numbers[1::2]))
 
 
+def point_numbers(points):
+    """The numbers of points, time and value one after another."""
+    numbers = []
+    for point in points:
+        numbers.extend(point)
+    return numbers
+
+
 def points_fit(numbers):
     """Whether numbers, time and value one after another, are a line's."""
     if len(numbers) % 2 == 1 or len(numbers) > 2 * MOST_POINTS:

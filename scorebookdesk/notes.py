@@ -25,6 +25,11 @@ def note_fits(numbers):
     return numbers[2] >= 1 and none_above(numbers, GREATEST)
 
 
+def note_numbers(note):
+    """The note's number and its five numbers."""
+    return [note.number, note.voice_number, note.at, note.length, note.step, note.level]
+
+
 def note_end(note, voice):
     """The first time at which the note, of this voice, sounds no more."""
     return note.at + note.length + voice.fade

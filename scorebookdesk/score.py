@@ -77,3 +77,14 @@ def sums(score, first, n):
 def samples(score, first, n):
     """The sums at first and on, n of them, each cut to sixteen bits."""
     return [max(LOWEST, min(HIGHEST, total)) for total in sums(score, first, n)]
+
+
+def peak(score, first, n):
+    """The greatest size of the samples at first and on, n of them, and the first time of it."""
+    greatest = 0
+    time = first
+    for t, sample in enumerate(samples(score, first, n), start=first):
+        if abs(sample) > greatest:
+            greatest = abs(sample)
+            time = t
+    return (greatest, time)

@@ -22,6 +22,11 @@ def voice_fits(numbers):
     return none_above(numbers, GREATEST)
 
 
+def voice_numbers(voice):
+    """The five numbers of a voice."""
+    return [voice.wave, voice.rise, voice.fall, voice.stay, voice.fade]
+
+
 def held(voice, k):
     """How loud a note of this voice is after k samples while it is held."""
     if k < voice.rise:

@@ -43,6 +43,49 @@ def following(t):
     return [8, t]
 
 
+def loud(v, length, k):
+    return [9, v, length, k]
+
+
+def line_at(v, t):
+    return [10, v, t]
+
+
+def seek(t):
+    return [11, t]
+
+
+def play(n):
+    return [12, n]
+
+
+def peak(first, n):
+    return [13, first, n]
+
+
+def all_notes():
+    """The call notes."""
+    return [14]
+
+
+def save():
+    return [15]
+
+
+def load(row):
+    return [16, len(row)] + list(row)
+
+
+def written_row(voices=(), lines=(), next_number=1, notes=()):
+    """A score's row; what is left out of the eight voices and lines is as at first."""
+    voices = list(voices) + [(0, 0, 0, 256, 0)] * (8 - len(voices))
+    lines = list(lines) + [()] * (8 - len(lines))
+    row = [number for numbers in voices for number in numbers]
+    for points in lines:
+        row += [len(points)] + [number for point in points for number in point]
+    return row + [next_number, len(notes)] + [number for numbers in notes for number in numbers]
+
+
 def flat(calls):
     return [number for call in calls for number in call]
 
@@ -78,6 +121,29 @@ def listed(answer):
     if len(answer) < 2 or answer[1] != len(answer) - 2:
         raise AssertionError("not a number and a list: " + repr(answer))
     return answer[2:]
+
+
+def lists_in(answer):
+    """The lists of an answer that is a number and any lists."""
+    return parted(answer[1:])
+
+
+def notes_of(calls):
+    """Of each note of the score its number, voice, at, len, step, level."""
+    answer = last(*calls, all_notes())
+    found = lists_in(answer)
+    if answer[0] != len(found):
+        raise AssertionError("not as many notes as told: " + repr(answer))
+    return found
+
+
+def row_after(calls):
+    """The row of the score."""
+    answer = last(*calls, save())
+    found = listed(answer)
+    if answer[0] != len(found):
+        raise AssertionError("not as many numbers as told: " + repr(answer))
+    return found
 
 
 def sums_of(calls, first, n):

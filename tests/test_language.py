@@ -29,6 +29,8 @@ EXPRESSIONS = (
     ast.Call, ast.Attribute, ast.Subscript, ast.Slice, ast.ListComp, ast.Name, ast.Lambda,
 )
 DUNDER_METHODS = ("__init__",)
+ERROR_BASES = ("ValueError", "Exception")
+WALKERS = ("list", "tuple", "dict", "sorted", "sum", "any", "all", "enumerate", "zip", "min", "max")
 WORDS_NOWHERE = (
     "type|typing|typing_extensions|enum|Enum|IntEnum|StrEnum|Flag|IntFlag|Generic|Protocol|ABC|ABCMeta|"
     "namedtuple|NamedTuple|TypedDict|TYPE_CHECKING|abstractmethod|register|mro|elements|open|input|"
@@ -173,6 +175,54 @@ class Language(unittest.TestCase):
         for node in self.each(ast.Call):
             if isinstance(node.func, ast.Attribute):
                 self.assertIn(node.func.attr, OWN_METHODS)
+
+    def test_classes(self):
+        for node in self.each(ast.ClassDef):
+            self.assertEqual(node.col_offset, 0)
+            self.assertLessEqual(len(node.bases), 1)
+            self.assertEqual(node.keywords, [])
+            for base in node.bases:
+                self.assertIn(base.id, ERROR_BASES)
+            for part in node.body:
+                self.assertIsInstance(part, (ast.FunctionDef, ast.Expr))
+
+    def test_errors_are_the_programs_own(self):
+        own = {node.name for node in self.each(ast.ClassDef) if node.bases}
+        for node in self.each(ast.Raise):
+            self.assertIsInstance(node.exc, ast.Call)
+            self.assertIn(node.exc.func.id, own)
+            self.assertEqual(node.exc.keywords, [])
+        for node in self.each(ast.ExceptHandler):
+            self.assertIn(node.type.id, own)
+        for node in self.each(ast.Try):
+            self.assertEqual(node.finalbody, [])
+
+    def test_walked_at_once(self):
+        within = []
+        for node in self.each((ast.For, ast.comprehension)):
+            within.append(node.iter)
+        for node in self.each(ast.Call):
+            if isinstance(node.func, ast.Name) and node.func.id in WALKERS:
+                within += node.args[:1]
+        for node in self.each(ast.Call):
+            if isinstance(node.func, ast.Name) and node.func.id in ("zip", "enumerate", "reversed", "range"):
+                self.assertIn(ast.dump(node), [ast.dump(one) for one in within])
+
+    def test_sets_are_not_kept(self):
+        counted = [ast.dump(node.args[0]) for node in self.each(ast.Call)
+                   if isinstance(node.func, ast.Name) and node.func.id in ("len", "sorted")]
+        for node in self.each(ast.Call):
+            if isinstance(node.func, ast.Name) and node.func.id in ("set", "frozenset"):
+                self.assertIn(ast.dump(node), counted)
+
+    def test_no_name_is_a_method_and_a_value(self):
+        methods = {part.name for node in self.each(ast.ClassDef) for part in node.body
+                   if isinstance(part, ast.FunctionDef)}
+        values = {node.attr for node in self.each(ast.Attribute) if isinstance(node.ctx, ast.Store)}
+        self.assertEqual(methods & values, set())
+        for name in values:
+            for kind in (str, int, list, dict, set, bytes):
+                self.assertNotIn(name, dir(kind))
 
     def test_is_stands_beside_none_alone(self):
         for node in self.each(ast.Compare):

@@ -1,9 +1,7 @@
 import unittest
 
-from scorebookdesk.player import answer_note
-from scorebookdesk.score import Score
 from tests.helper import (
-    GREATEST_NUMBER, TIME_END, ask, drop, last, move, note, sounding_in, sums_of,
+    GREATEST_NUMBER, TIME_END, ask, drop, last, load, move, note, sounding_in, sounds, sums_of, written_row,
 )
 
 FULL_SCORE = [note()] * 64
@@ -63,12 +61,12 @@ class NoteCall(unittest.TestCase):
             self.assertEqual(last(*FULL_SCORE, refused), [-1])
 
     def test_no_number_left(self):
-        score = Score()
-        score.next_number = 2 ** 32 - 1
-        self.assertEqual(answer_note(score, note()[1:]), [2 ** 32 - 1])
-        self.assertEqual(answer_note(score, note()[1:]), [-6])
-        self.assertEqual(answer_note(score, note(length=0)[1:]), [-1])
-        self.assertEqual(len(score.notes), 1)
+        calls = [load(written_row(next_number=2 ** 32 - 1)), note(), note(), note(length=0), sounds(0)]
+        self.assertEqual(ask(*calls), [[0], [2 ** 32 - 1], [-6], [-1], [1, 1, 2 ** 32 - 1]])
+
+    def test_no_number_left_after_drop(self):
+        calls = [load(written_row(next_number=2 ** 32 - 1)), note(), drop(2 ** 32 - 1), note()]
+        self.assertEqual(ask(*calls)[1:], [[2 ** 32 - 1], [0], [-6]])
 
 
 class DropCall(unittest.TestCase):

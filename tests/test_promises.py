@@ -1,4 +1,4 @@
-"""S1 to S5, and the document's own words, on scores of several notes."""
+"""S1 to S6, and the document's own words, on drawn scores."""
 
 import random
 import unittest
@@ -6,8 +6,8 @@ from fractions import Fraction
 from math import floor
 
 from tests.helper import (
-    ask, drop, following, last, line, listed, move, note, raw, render, samples_of, sounding_in,
-    sounds, sums_of, voice,
+    GREATEST_NUMBER, all_notes, ask, drop, following, last, line, line_at, listed, load, loud, move, note, notes_of,
+    peak, play, raw, render, row_after, samples_of, save, seek, sounding_in, sounds, sums_of, voice, written_row,
 )
 
 SPAN = 256
@@ -125,6 +125,35 @@ class TheWords(unittest.TestCase):
                 self.assertEqual(found[len(calls) + SPAN + t], later[:1] or [-5])
 
 
+    def test_loud_and_line_at(self):
+        for seed in range(10):
+            voices, lines, notes = chance_score(seed)
+            calls = score_calls(voices, lines, notes)
+            for v in range(8):
+                for length in (0, 1, 30, 120):
+                    found = ask(*calls, *[loud(v, length, k) for k in range(180)])[len(calls):]
+                    self.assertEqual(found, [[told_loud(voices[v], length, k)] for k in range(180)])
+                found = ask(*calls, *[line_at(v, t) for t in range(SPAN + 5)])[len(calls):]
+                self.assertEqual(found, [[told_line(lines[v], t)] for t in range(SPAN + 5)])
+
+    def test_peak(self):
+        for seed in range(25):
+            calls = score_calls(*chance_score(seed))
+            sizes = [abs(sample) for sample in samples_of(calls, 0, SPAN)]
+            for first, n in ((0, SPAN), (0, 0), (40, 1), (30, 70), (200, 56), (256, 0), (7, 100)):
+                greatest = max(sizes[first:first + n] + [0])
+                time = first + sizes[first:first + n].index(greatest) if greatest else first
+                self.assertEqual(last(*calls, peak(first, n)), [greatest, 1, time])
+
+    def test_notes_and_save(self):
+        for seed in range(25):
+            voices, lines, notes = chance_score(seed)
+            calls = score_calls(voices, lines, notes)
+            told = [[k + 1] + one for k, one in enumerate(notes)]
+            self.assertEqual(notes_of(calls), told)
+            self.assertEqual(row_after(calls), written_row(voices, lines, len(notes) + 1, told))
+
+
 class S1NothingOutsideItsTimeNeverMoreThanItsWave(unittest.TestCase):
     def test_each_note_by_itself(self):
         for seed in range(20):
@@ -182,6 +211,40 @@ class S3PartsOfAnyCut(unittest.TestCase):
                 parts = ask(*calls, *asked)[len(calls):]
                 self.assertEqual([sample for part in parts for sample in listed(part)], whole)
 
+    def test_played_in_parts(self):
+        for seed in range(30):
+            calls = score_calls(*chance_score(seed))
+            chance = random.Random(seed)
+            first = chance.choice((0, chance.randrange(SPAN)))
+            between = [chance.randrange(first, SPAN + 1) for k in range(chance.choice((0, 1, 3, 40)))]
+            cuts = sorted([first, SPAN] + between)
+            asked = [play(end - begin) for begin, end in zip(cuts, cuts[1:])]
+            parts = ask(*calls, seek(first), *asked)[len(calls) + 1:]
+            self.assertEqual([part[0] for part in parts], cuts[1:])
+            heard = [sample for part in parts for sample in listed(part)]
+            self.assertEqual(heard, samples_of(calls, first, SPAN - first))
+
+    def test_played_while_notes_are_put_moved_and_dropped(self):
+        for seed in range(20):
+            chance = random.Random(seed)
+            calls = score_calls(*chance_score(seed))
+            parts = []
+            place = 0
+            while place < SPAN:
+                n = min(chance.choice((0, 1, 9, 30)), SPAN - place)
+                parts.append((place, n, len(calls)))
+                calls.append(play(n))
+                place += n
+                v = chance.randrange(8)
+                calls.append(chance.choice((
+                    note(v, chance.randrange(SPAN), 40, 999, 200), move(chance.randrange(9), place),
+                    drop(chance.randrange(9)), voice(v, 1, stay=200), line(v, place, 99),
+                )))
+            found = ask(*calls)
+            for first, n, at in parts:
+                self.assertEqual(listed(found[at]), samples_of(calls[:at], first, n))
+                self.assertEqual(found[at][0], first + n)
+
     def test_sample_by_sample_and_backwards(self):
         calls = score_calls(*chance_score(77))
         whole = samples_of(calls, 0, SPAN)
@@ -213,6 +276,16 @@ class S4AllLaterIsTheSameLater(unittest.TestCase):
             )
 
 
+    def test_played_and_peak_later(self):
+        for seed in range(10):
+            score = chance_score(seed)
+            for later in (1, 2 ** 33, 2 ** 40 - SPAN):
+                now = ask(*score_calls(*score), seek(0), play(SPAN), peak(3, 200))[-2:]
+                then = ask(*score_calls(*score, later=later), seek(later), play(SPAN), peak(3 + later, 200))[-2:]
+                self.assertEqual(then[0], [now[0][0] + later] + now[0][1:])
+                self.assertEqual(then[1], now[1][:2] + [now[1][2] + later])
+
+
 class S5BetweenOneTimeAndTheNextTold(unittest.TestCase):
     def test_the_same_notes_sound(self):
         for seed in range(15):
@@ -225,6 +298,44 @@ class S5BetweenOneTimeAndTheNextTold(unittest.TestCase):
                 self.assertGreater(until, t)
                 for between in range(t, min(until, 2 * SPAN)):
                     self.assertEqual(heard[between], heard[t])
+
+
+class S6SavedAndLoadedItIsTheSame(unittest.TestCase):
+    ASKED = (
+        [save(), all_notes(), render(0, SPAN), raw(0, SPAN), peak(0, SPAN)] + [sounds(t) for t in range(0, SPAN, 5)]
+        + [following(t) for t in range(0, SPAN, 5)] + [loud(v, 20, k) for v in range(8) for k in (0, 9, 25)]
+        + [line_at(v, t) for v in range(8) for t in (0, 50, 200)]
+    )
+    AFTER = [drop(2), move(1, 7), note(3, 9, 60, 500, 250), voice(3, 2, 1, 1, 9, 9), line(4, 8, 8)]
+
+    def changed(self, seed):
+        """A drawn score with gaps in its notes' numbers."""
+        voices, lines, notes = chance_score(seed)
+        return score_calls(voices, lines, notes) + [note(), drop(len(notes)), move(1, 3), note(5, 5, 5, 5, 5)]
+
+    def test_saved_and_loaded(self):
+        for seed in range(20):
+            calls = self.changed(seed)
+            row = row_after(calls)
+            asked = self.ASKED + self.AFTER + self.ASKED
+            expected = ask(*calls, *asked)[len(calls):]
+            for before in ([], self.changed(seed + 1)):
+                found = ask(*before, load(row), *asked)[len(before):]
+                self.assertEqual(found[0], [len(notes_of(calls))])
+                self.assertEqual(found[1:], expected)
+
+    def test_refused_rows_change_nothing(self):
+        for seed in range(20):
+            calls = self.changed(seed)
+            row = row_after(calls)
+            expected = ask(*calls, seek(9), *self.ASKED, play(9))[len(calls) + 1:]
+            chance = random.Random(seed)
+            place = chance.randrange(len(row))
+            far = row[:place] + [GREATEST_NUMBER] + row[place + 1:]
+            for refused in (row[:place], row + [place], far, row[place + 1:]):
+                found = ask(*calls, seek(9), load(refused), *self.ASKED, play(9))[len(calls) + 1:]
+                self.assertEqual(found[0], [-6])
+                self.assertEqual(found[1:], expected)
 
 
 if __name__ == "__main__":
